@@ -179,7 +179,7 @@ func wrongPolys() [][]int {
 	return list
 }
 
-func listsShare(a, b []int) bool {
+func listsShare[E any](a, b []E) bool {
 	a, b = a[:cap(a)], b[:cap(b)]
 	for i := range a {
 		for j := range b {
