@@ -17,6 +17,7 @@ const (
 	shortSize  = 4
 	chainCount = 10
 	chainSteps = 15
+	sumCount   = 8*chainSteps + 1
 
 	// Texts whose digits are all 0, and all 15, but for those of the sum.
 	textOfZeros    = "426479724"
@@ -228,16 +229,16 @@ func stepNumbers() []int {
 	return []int{math.MinInt, math.MinInt + 1, -1 << 32, -256, -16, -15, -2, -1, 0, 1, 2, 3, 7, 8, 14, 15, 16, 17, 18, 30, 31, 255, 256, 257, 272, 1 << 32, 1<<32 + 1, math.MaxInt - 1, math.MaxInt}
 }
 
-// textsOfSums are texts by the sums that their digits have. These are all that are known: none is of 2, 3 or 118.
+// textsOfSums has a text for each sum that digits may have; those of the seldom ones were looked for once, and are written down.
 func textsOfSums(t *testing.T) map[int]string {
 	t.Helper()
 	known := map[int]string{
-		0: textOfFifteens, 1: "181091571", 4: "6578990", 5: "197301", 6: "3299074", 7: "1755088", 8: "433384",
-		112: "218355", 113: "2319085", 114: "118476", 115: "3369442", 116: "12822758", 117: "665782", 119: "76496374", 120: textOfZeros,
+		0: textOfFifteens, 1: "181091571", 2: "95660816", 3: "45742198", 4: "6578990", 5: "197301", 6: "3299074", 7: "1755088", 8: "433384",
+		112: "218355", 113: "2319085", 114: "118476", 115: "3369442", 116: "12822758", 117: "665782", 118: "240074499", 119: "76496374", 120: textOfZeros,
 	}
-	for n := 0; len(known) < 118; n++ {
+	for n := 0; len(known) < sumCount; n++ {
 		if n == 1000000 {
-			t.Fatalf("texts of %d sums are found, want 118", len(known))
+			t.Fatalf("texts of %d sums are found, want %d", len(known), sumCount)
 		}
 		m := strconv.Itoa(n)
 		digits := modelDigitsOf(m)
