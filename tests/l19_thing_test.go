@@ -287,6 +287,24 @@ func drawThing(draw *rand.Rand) impl.Thing {
 	return x
 }
 
+// drawAnyThing is one that may be wrong in one field.
+func drawAnyThing(draw *rand.Rand) impl.Thing {
+	x := drawThing(draw)
+	switch draw.IntN(6) {
+	case 0:
+		return withFlags(x, draw.IntN(flagsByKind))
+	case 1:
+		return withKind(x, draw.IntN(6)-1)
+	case 2:
+		return withNext(x, draw.IntN(20)-2)
+	case 3:
+		return withValue(x, drawBytes(draw, 30+draw.IntN(5)))
+	case 4:
+		return withId(x, draw.IntN(1100)-50)
+	}
+	return x
+}
+
 // What these tests know was written down by hand from the chapter.
 func TestKnownThingTexts(t *testing.T) {
 	zeros, ones := strings.Repeat("\x00", 32), strings.Repeat("\x01", 32)
@@ -440,19 +458,7 @@ func TestDrawnThingsOfAnySort(t *testing.T) {
 	draw := rand.New(rand.NewPCG(19, 2))
 	right, wrong := 0, 0
 	for range 5000 {
-		x := drawThing(draw)
-		switch draw.IntN(6) {
-		case 0:
-			x = withFlags(x, draw.IntN(flagsByKind))
-		case 1:
-			x = withKind(x, draw.IntN(6)-1)
-		case 2:
-			x = withNext(x, draw.IntN(20)-2)
-		case 3:
-			x = withValue(x, drawBytes(draw, 30+draw.IntN(5)))
-		case 4:
-			x = withId(x, draw.IntN(1100)-50)
-		}
+		x := drawAnyThing(draw)
 		if modelThingOk(x) {
 			right++
 		} else {
