@@ -714,20 +714,25 @@ func TestShortTextsThatAreNoThings(t *testing.T) {
 	}
 }
 
+// drawChanged is the text as it is, with a byte turned or bytes put in or left out, or another text altogether.
+func drawChanged(draw *rand.Rand, text string) string {
+	switch draw.IntN(4) {
+	case 0:
+		return turnedByte(text, draw.IntN(len(text)), 1<<draw.IntN(8))
+	case 1:
+		at := draw.IntN(len(text))
+		return text[:at] + drawBytes(draw, draw.IntN(3)) + text[at+draw.IntN(2):]
+	case 2:
+		return drawBytes(draw, draw.IntN(50))
+	}
+	return text
+}
+
 func TestDrawnTextsOfThings(t *testing.T) {
 	draw := rand.New(rand.NewPCG(19, 3))
 	read, refused := 0, 0
 	for range 20000 {
-		text := thingBytes(drawThing(draw))
-		switch draw.IntN(4) {
-		case 0:
-			text = turnedByte(text, draw.IntN(len(text)), 1<<draw.IntN(8))
-		case 1:
-			at := draw.IntN(len(text))
-			text = text[:at] + drawBytes(draw, draw.IntN(3)) + text[at+draw.IntN(2):]
-		case 2:
-			text = drawBytes(draw, draw.IntN(50))
-		}
+		text := drawChanged(draw, thingBytes(drawThing(draw)))
 		if _, ok := expectReadThing(t, text); ok {
 			read++
 		} else {
